@@ -1,0 +1,1 @@
+"""Pacehouse: captions that are right while speech still comes."""

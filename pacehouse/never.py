@@ -9,7 +9,7 @@ from pacehouse.values import is_ascending, is_index, is_number, is_tuple_of
 def some_lag(rules):
     """Whether some lag has a plan."""
     check_full(rules)
-    classes = sorted(list(first_pumps(rules)))
+    classes = list(first_pumps(rules))
     return not is_lost_somewhere(classes, lost_places(classes))
 
 

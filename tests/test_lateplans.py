@@ -143,6 +143,24 @@ class LagTest(unittest.TestCase):
         for thing in (["plan", plan], ("plan", plan, 0), ("baffle", plan), ("Plan", plan), (plan,), plan, ("plan",)):
             self.assertIs(lag_holds(oracle.NEXT, 1, thing), False)
 
+    def test_one_row_for_each_stand(self):
+        for cells, holds in ((((0, "", "aa"),), True), (((0, "", "ab"),), True), (((0, "", "aa"), (0, "", "ab")), False)):
+            self.assertIs(lag_holds(oracle.ANY, 0, ("plan", cells)), holds)
+        baffle = ((0, "", "a", 1), (1, "", "b", 0), (2, "", "a", 0))
+        for row in ((0, "", "b", 1), (0, "", "a", 2), (2, "", "a", 7)):
+            self.assertIs(lag_holds(oracle.NEXT, 0, ("baffle", tuple(sorted(baffle + (row,))))), False)
+
+    def test_no_more_waiting_letters_than_the_lag(self):
+        plan = judge_lag(oracle.NEXT, 1)[1]
+        for cell in ((0, "aa", ""), (0, "aa", "ab"), (1, "ab", "")):
+            self.assertIs(lag_holds(oracle.NEXT, 1, ("plan", tuple(sorted(plan + (cell,))))), False)
+        rows = judge_lag(oracle.LATER, 1)[1]
+        for row in ((0, "aa", "a", 99), (3, "bb", "b", 99), (0, "a" * 2000, "a", 99)):
+            self.assertIs(lag_holds(oracle.LATER, 1, ("baffle", tuple(sorted(rows + (row,))))), False)
+        self.assertIs(lag_holds(oracle.LATER, 1, ("baffle", rows)), True)
+        baffle = ((0, "", "a", 1), (1, "", "b", 0), (2, "", "a", 0))
+        self.assertIs(lag_holds(oracle.NEXT, 0, ("baffle", baffle[:2] + ((1, "b", "a", 0),) + baffle[2:])), False)
+
     def test_any_values(self):
         for thing in odd.VALUES:
             for rules in FULL:

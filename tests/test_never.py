@@ -103,6 +103,26 @@ class NeverTest(unittest.TestCase):
                       tuple(sorted(cells + ((0, ((0,), (1,), (2,)), (2, 1)),)))):
             self.assertIs(never_holds(oracle.NEXT, ("ever", other)), False, other)
 
+    def test_one_cell_for_each_place(self):
+        rules = Rules("a", "xy", ((("a", "x", 0), ("a", "y", 1)), (("a", "x", 0), ("a", "y", 1))))
+        told = ((0, 1), (0, 1))
+        for cells, holds in ((((0, told, (0,)),), True), (((0, told, (1,)), (1, told, (0,))), True),
+                             (((0, told, (1,)),), False), (((0, told, (0,)), (0, told, (1,)), (1, told, (0,))), False)):
+            self.assertIs(never_holds(rules, ("ever", cells)), holds, cells)
+
+    def test_cells_of_long_classes_alone(self):
+        cells = judge_never(oracle.NEXT)[1]
+        told = ((1, 2), (1, 2), (1, 2))
+        self.assertNotIn(told, oracle.long_classes(oracle.NEXT))
+        self.assertIs(never_holds(oracle.NEXT, ("ever", tuple(sorted(cells + ((0, told, (2, 1)),))))), False)
+        # The empty text's class is no long one here, though its cell would lead on.
+        rules = Rules("a", "x", ((("a", "x", 1),), (("a", "x", 1),)))
+        self.assertEqual(long_classes(rules), (((1,), (1,)),))
+        cells = ((0, ((1,), (1,)), (1,)), (1, ((1,), (1,)), (1,)))
+        self.assertIs(never_holds(rules, ("ever", cells)), True)
+        self.assertIs(never_holds(rules, ("ever", cells + ((1, ((0,), (1,)), (1,)),))), False)
+        self.assertIs(never_holds(rules, ("ever", cells[:1] + ((1, ((0,), (1,)), (1,)),) + cells[1:])), False)
+
     def test_one_thing_otherwise(self):
         seen = {True: 0, False: 0}
         for at, rules in enumerate(samples(75, 60)):

@@ -66,17 +66,22 @@ def counted_ways(options):
     return waits, ways
 
 
-def baffle_rows(options, lost):
-    """The rows of a baffle: the lost stands to which their letters lead from the first one."""
-    rows = {}
-    order = [START]
+def forced_from(options, lost, start):
+    """The lost stands to which their letters lead from a lost one, but those that are not open."""
+    met = {}
+    order = [start]
     while len(order) > 0:
         stand = order.pop()
         letter, number = lost[stand]
-        if number != SHUT and stand not in rows:
-            rows[stand] = (stand[0], stand[1], letter, number)
+        if number != SHUT and stand not in met:
+            met[stand] = True
             order.extend(options[stand][letter])
-    return tuple(sorted(list(rows.values())))
+    return list(met)
+
+
+def baffle_rows(options, lost):
+    """The rows of a baffle: the lost stands to which their letters lead from the first one."""
+    return tuple(sorted([(*stand, *lost[stand]) for stand in forced_from(options, lost, START)]))
 
 
 def plan_cells(rules, lag, lost):

@@ -1,6 +1,7 @@
 """Plans of late writers, and baffles of their speakers."""
 
 from pacehouse.captioning import check_full, first_caption
+from pacehouse.errors import TooSoon
 from pacehouse.lategame import START, baffle_rows, lost_stands, met_options, plan_cells
 from pacehouse.relations import letter_relations
 from pacehouse.rules import state_behind
@@ -71,6 +72,14 @@ def paper_of(rules, lag):
 def has_plan(rules, lag):
     """Whether there is a plan of a lag of rules that are full."""
     return START not in lost_stands(met_options(rules, lag))
+
+
+def check_in_time(rules, lag):
+    """Raises Mute for rules that are not full, then TooSoon with a baffle if there is no plan of a lag."""
+    check_full(rules)
+    paper = paper_of(rules, lag)
+    if paper[0] == "baffle":
+        raise TooSoon(paper)
 
 
 def is_plan(rules, lag, things):

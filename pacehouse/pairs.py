@@ -15,19 +15,19 @@ def are_same(one, other):
 def is_within(one, other):
     """Whether each right pair of one is a right pair of other."""
     check_same_letters(one, other)
-    return first_apart(one, other, met_pairs(one, other), False) is None
+    return first_apart(one, other, met_pairs(one, other, START), False) is None
 
 
 def parting(one, other):
     """The first pair that is right by just one of two rules, or None."""
     check_same_letters(one, other)
-    return first_apart(one, other, met_pairs(one, other), True)
+    return first_apart(one, other, met_pairs(one, other, START), True)
 
 
 def compared(one, other):
     """A paper that two rules are the same, or that they are apart."""
     check_same_letters(one, other)
-    met = met_pairs(one, other)
+    met = met_pairs(one, other, START)
     apart = first_apart(one, other, met, True)
     if apart is None:
         return ("same", tuple(sorted(list(met))))
@@ -44,13 +44,13 @@ def compared_holds(one, other, thing):
     return False
 
 
-def met_pairs(one, other):
-    """The pairs of states to which right pairs of both lead, in the order of the first such pairs.
+def met_pairs(one, other, start):
+    """The pairs of states to which pairs lead on from both of a first pair of states, in the order of these pairs.
 
     For each of them the pair of states ahead of it, and the sign that leads from there; None for the first one.
     """
-    met = {START: None}
-    order = [START]
+    met = {start: None}
+    order = [start]
     at = 0
     while at < len(order):
         pair = order[at]
@@ -66,7 +66,7 @@ def met_pairs(one, other):
 
 
 def first_apart(one, other, met, either):
-    """The first pair that is right by one and not by other, or if either, by just one of them; or None."""
+    """The first pair that leads on by one and not by other, or if either, by just one of them; or None."""
     for pair in met:
         here = moves_from(one.rows, pair[0])
         there = moves_from(other.rows, pair[1])

@@ -28,6 +28,8 @@ WORDS = re.compile(
 NODES = (
     ast.Global, ast.AsyncFunctionDef, ast.Await, ast.Yield, ast.YieldFrom, ast.Lambda, ast.Try, ast.With, ast.GeneratorExp,
     ast.Div, ast.Delete, ast.Assert, ast.Match, ast.Nonlocal, ast.AnnAssign, ast.NamedExpr, ast.Set)
+# What may be imported that is not of the package.
+OUTSIDE = {"math": {"gcd"}}
 DUNDERS = {"__init__", "__eq__", "__len__", "__str__", "__and__", "__or__"}
 INTERFACE = {
     "rules": {"Rules": ["heard", "written", "rows"], "Rules.read": ["text"], "Rules.led": ["self", "state", "speech", "caption"],
@@ -43,6 +45,25 @@ INTERFACE = {
                   "least_lag": ["rules", "most"], "written_by": ["rules", "cells", "speech"]},
     "classes": {"class_of": ["rules", "text"], "long_classes": ["rules"], "pump_holds": ["rules", "thing"]},
     "never": {"some_lag": ["rules"], "judge_never": ["rules"], "never_holds": ["rules", "thing"]},
+    "shown": {"is_scene": ["rules", "reach", "thing"], "answers": ["rules", "scene", "letter"], "cost_of": ["scene", "answer"],
+              "scene_behind": ["rules", "reach", "scene", "letter", "answer"], "taken_back": ["captions"]},
+    "means": {"least_mean": ["rules", "reach"], "calm_cells": ["rules", "reach", "fraction"],
+              "restless_cells": ["rules", "reach", "fraction"], "calm_holds": ["rules", "reach", "fraction", "thing"],
+              "restless_holds": ["rules", "reach", "fraction", "thing"], "shown_along": ["rules", "reach", "cells", "speech"]},
+    "totals": {"least_total": ["rules", "reach"], "forced_cells": ["rules", "reach", "number"],
+               "forced_holds": ["rules", "reach", "number", "thing"]},
+    "windows": {"is_let_by": ["rules", "size", "speech", "caption"], "stops_at": ["rules", "size", "speech", "caption"],
+                "let_by": ["rules", "size"]},
+    "exact": {"inner_states": ["rules"], "are_alike": ["rules", "state", "other"], "can_tell": ["rules", "size"],
+              "judge_size": ["rules", "size"], "size_holds": ["rules", "size", "thing"], "first_wrong": ["rules", "size"],
+              "least_size": ["rules"], "judge_any_size": ["rules"], "any_size_holds": ["rules", "thing"]},
+    "exchanges": {"need": ["rules", "speech", "caption"], "mended": ["rules", "speech", "caption"],
+                  "fewest_signs": ["rules", "speech", "caption", "place"], "judge_need": ["rules", "speech", "caption"],
+                  "need_holds": ["rules", "speech", "caption", "thing"]},
+    "enough": {"judge_enough": ["rules", "other", "number"], "enough_holds": ["rules", "other", "number", "thing"],
+               "is_enough": ["rules", "other", "number"], "first_need": ["rules", "other", "number"],
+               "least_enough": ["rules", "other", "most"], "worst_needs": ["rules", "other", "length"]},
+    "lists": {"list_of": ["rules", "speech"], "plain_caption": ["rules", "speech"], "plain_back": ["rules", "speech"]},
 }
 
 
@@ -118,6 +139,9 @@ class FilesTest(unittest.TestCase):
             asks[module] = {node.module for node in imports}
             for node in imports:
                 self.assertTrue(isinstance(node, ast.ImportFrom) and node.level == 0 and node in tree.body, module)
+                if node.module in OUTSIDE:
+                    self.assertTrue({alias.name for alias in node.names} <= OUTSIDE[node.module], module)
+                    continue
                 names = [x.name for x in known[node.module].body if isinstance(x, (ast.FunctionDef, ast.ClassDef))]
                 names += [x.targets[0].id for x in known[node.module].body if isinstance(x, ast.Assign)]
                 self.assertTrue({alias.name for alias in node.names} <= set(names), module)

@@ -93,8 +93,11 @@ def ways(rules, state, speech):
 def led(rules, state, speech, caption):
     if len(speech) != len(caption):
         return None
-    ends = [end for told, end in ways(rules, state, speech) if told == caption]
-    return ends[0] if ends else None
+    for letter, sign in zip(speech, caption):
+        state = next((after for h, c, after in rules.rows[state] if (h, c) == (letter, sign)), None)
+        if state is None:
+            return None
+    return state
 
 
 def right_pairs(rules, most):

@@ -103,7 +103,7 @@ def restless_numbers(rules, reach, p, q):
     numbers = {scene: 0 for scene in table}
     top = len(table) * max(1, p, q * reach)
     return risen(numbers, top, lambda scene, numbers: min(
-        max((p - q * a + numbers.get(after, top + 1) for _, a, after in ways), default=0)
+        max((p - q * a + numbers[after] if after in numbers else top + 1 for _, a, after in ways), default=0)
         for ways in table[scene].values()))
 
 

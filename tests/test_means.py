@@ -37,7 +37,7 @@ class MeansTest(unittest.TestCase):
 
     def test_beside_a_slow_search(self):
         found = set()
-        for rules, reach in samples(81, 25, 5):
+        for rules, reach in samples(81, 12, 3):
             mean = least_mean(rules, reach)
             self.assertEqual(mean, oracle_calm.least_mean(rules, reach))
             self.assertTrue(odd.same_kind(mean, (Fraction(*mean).numerator, Fraction(*mean).denominator)))

@@ -15,16 +15,14 @@ from tests.test_shown import FULL, NOT_FULL
 NUMBERS = (1, 2, 3, 4, 8)
 
 
-def spending(seed, count):
-    """Random rules with reaches at which the least total is some number from 1 on."""
-    found = []
-    while len(found) < count:
-        for rules in oracle_calm.many_calm(seed, 30, 1 + seed % 2, scenes_at_most=25):
-            total = oracle_calm.least_total(rules, 1 + seed % 2)
-            if total is not None and total > 0:
-                found.append((rules, 1 + seed % 2))
-        seed += 1
-    return found[:count]
+# Rules with reaches, each with a least total from 1 on.
+SPENDING = [(oracle_calm.from_moves(*rows), reach) for rows, reach in (
+    (("aa2 ab3 ba0", "aa1 ab3 ba1 bb1", "aa3 ab1", "ba1 bb2"), 1),
+    (("aa2 ab3 ba1 bb3", "ab0", "aa2 ba2 bb2", "bb2"), 1),
+    (("aa3 ab1 ba0 bb0", "ab0", "aa2 ab0 ba2 bb0", "bb2"), 1),
+    (("aa1 ab3 ba3 bb2", "aa1 ab3 bb1", "aa3 ba2 bb0", "aa0 ab0"), 1),
+    (("aa1 ab0 ba3 bb2", "aa1 ab1 ba1", "ba2 bb0", "aa2 ab3 ba2"), 1),
+    (("aa3 ab2 bb1", "aa1 ba1", "ba0", "aa1"), 2))]
 
 
 class TotalsTest(unittest.TestCase):
@@ -49,7 +47,7 @@ class TotalsTest(unittest.TestCase):
 
     def test_beside_a_slow_search(self):
         found = set()
-        for rules, reach in samples(101) + spending(102, 6):
+        for rules, reach in samples(101) + SPENDING:
             told = str(rules)
             total = least_total(rules, reach)
             self.assertTrue(odd.same_kind(total, oracle_calm.least_total(rules, reach)))
@@ -65,7 +63,7 @@ class TotalsTest(unittest.TestCase):
 
     def test_never_greater_at_a_greater_reach(self):
         seen = 0
-        for rules, reach in samples(103) + spending(104, 6):
+        for rules, reach in samples(103) + SPENDING:
             if len(oracle_calm.scenes(rules, reach + 1)) <= 70 and reach < 2:
                 one, other = least_total(rules, reach), least_total(rules, reach + 1)
                 self.assertTrue(one is None or (other is not None and other <= one))
@@ -90,7 +88,7 @@ class TotalsTest(unittest.TestCase):
 class ForcedTest(unittest.TestCase):
     def test_cell_by_cell(self):
         seen = {True: 0, False: 0}
-        for rules, reach in samples(106) + spending(107, 8):
+        for rules, reach in samples(106) + SPENDING:
             total = oracle_calm.least_total(rules, reach)
             for number in NUMBERS:
                 cells = forced_cells(rules, reach, number)
@@ -105,7 +103,7 @@ class ForcedTest(unittest.TestCase):
 
     def test_cells_put_together_otherwise(self):
         seen = {True: 0, False: 0}
-        for rules, reach in samples(108, 8, 2) + spending(109, 4):
+        for rules, reach in samples(108, 8, 2) + SPENDING:
             for most in (1, 3):
                 for shift in (0, 9):
                     cells = oracle_calm.widest_forced(rules, reach, most, shift)
@@ -143,7 +141,7 @@ class ForcedTest(unittest.TestCase):
 
     def test_one_thing_otherwise(self):
         seen = {True: 0, False: 0}
-        for at, (rules, reach) in enumerate(samples(112, 10, 2) + spending(113, 4)):
+        for at, (rules, reach) in enumerate(samples(112, 10, 2) + SPENDING):
             for cells in (forced_cells(rules, reach, 1), oracle_calm.widest_forced(rules, reach, 2, 1)):
                 for thing in odd.variants(cells, at, 80):
                     told = oracle_calm.forced_holds(rules, reach, 1, thing)

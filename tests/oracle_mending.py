@@ -117,10 +117,12 @@ def row_behind(rules, row, letter, sign, most):
 def closure(rules, other, most, starts):
     """All cells to which some cells lead."""
     found = list(starts)
+    seen = set(found)
     for state, row in found:
         for h, c, after in other.rows[state]:
             cell = (after, row_behind(rules, row, h, c, most))
-            if cell not in found:
+            if cell not in seen:
+                seen.add(cell)
                 found.append(cell)
     return found
 

@@ -4,10 +4,20 @@ import unittest
 
 from pacehouse.captioning import captions, mute
 from pacehouse.classes import class_of
+from pacehouse.enough import enough_holds, first_need, is_enough, judge_enough, worst_needs
+from pacehouse.errors import Mute, TooSoon
+from pacehouse.exact import (
+    any_size_holds, can_tell, first_wrong, inner_states, judge_any_size, judge_size, least_size, size_holds)
+from pacehouse.exchanges import fewest_signs, judge_need, mended, need, need_holds
 from pacehouse.lateplans import judge_lag, lag_holds, least_lag, written_by
+from pacehouse.lists import list_of, plain_back, plain_caption
+from pacehouse.means import calm_cells, calm_holds, least_mean, restless_cells, restless_holds, shown_along
 from pacehouse.never import judge_never, never_holds, some_lag
 from pacehouse.pairs import parting
 from pacehouse.rules import Rules
+from pacehouse.shown import answers, cost_of, is_scene, scene_behind, taken_back
+from pacehouse.totals import forced_cells, forced_holds, least_total
+from pacehouse.windows import is_let_by, stops_at
 from tests import oracle
 
 NEXT = Rules("ab", "ab", (
@@ -22,6 +32,29 @@ FAR = Rules("abx", "ab", (
     (("b", "a", 3), ("x", "a", 2)),
     (("a", "a", 3), ("b", "a", 3), ("x", "a", 3)),
 ))
+TURNS = Rules("ab", "ab", (
+    (("a", "a", 1), ("a", "b", 2), ("b", "a", 1), ("b", "b", 2)),
+    (("a", "a", 0), ("a", "b", 0)),
+    (("b", "a", 0), ("b", "b", 0)),
+))
+ONCE = Rules("ab", "ab", (
+    (("a", "a", 1), ("a", "b", 2), ("b", "a", 1), ("b", "b", 2)),
+    (("a", "a", 3), ("a", "b", 3)),
+    (("b", "a", 3), ("b", "b", 3)),
+    (("a", "a", 3), ("a", "b", 3), ("b", "a", 3), ("b", "b", 3)),
+))
+FIRST = Rules("ab", "ab", (
+    (("a", "a", 1), ("a", "b", 2), ("b", "a", 1), ("b", "b", 2)),
+    (("a", "a", 1), ("b", "a", 1)),
+    (("a", "a", 2), ("b", "b", 2)),
+))
+ECHO = Rules("ab", "ab", ((("a", "a", 0), ("b", "b", 0)),))
+PROMISE = Rules("ab", "ab", (
+    (("a", "a", 1), ("a", "b", 2), ("b", "a", 1), ("b", "b", 2)),
+    (("a", "a", 1),),
+    (("a", "a", 2), ("b", "a", 2)),
+))
+LATE = Rules("ab", "ab", ((("a", "a", 1), ("a", "b", 2)), (("a", "a", 1),), (("a", "a", 2), ("b", "a", 2))))
 
 
 class ExamplesTest(unittest.TestCase):
@@ -62,6 +95,119 @@ class ExamplesTest(unittest.TestCase):
         self.assertIsNone(mute(oracle.END))
         self.assertEqual((least_lag(oracle.TURNS, 0), least_lag(oracle.TURNS, 1)), (None, 1))
         self.assertEqual((least_lag(oracle.ONCE, 0), least_lag(oracle.ONCE, 1)), (None, 1))
+
+
+class CalmTest(unittest.TestCase):
+    def test_scenes(self):
+        scene = (0, "a", "a")
+        self.assertIs(is_scene(NEXT, 1, scene), True)
+        self.assertEqual(answers(NEXT, scene, "b"), ("ba", "bb"))
+        self.assertEqual(cost_of(scene, "ba"), 1)
+        self.assertEqual(scene_behind(NEXT, 1, scene, "b", "ba"), (2, "b", "a"))
+        self.assertEqual(scene_behind(NEXT, 2, scene, "b", "ba"), (0, "ab", "ba"))
+        self.assertEqual(taken_back(("", "a", "ba", "bab")), 1)
+
+    def test_least_means(self):
+        self.assertEqual([least_mean(rules, 1) for rules in (NEXT, TURNS, ONCE)], [(1, 1), (1, 2), (0, 1)])
+        for rules in (NEXT, TURNS, ONCE):
+            for call, told in ((least_mean, ()), (calm_cells, ((1, 1),)), (restless_cells, ((0, 1),)), (least_total, ()),
+                               (forced_cells, (1,))):
+                with self.assertRaises(TooSoon) as caught:
+                    call(rules, 0, *told)
+                self.assertEqual(caught.exception.paper[0], "baffle")
+                self.assertIs(lag_holds(rules, 0, caught.exception.paper), True)
+
+    def test_least_totals(self):
+        self.assertEqual(least_total(ONCE, 1), 1)
+        self.assertIsNone(least_total(TURNS, 1))
+        cells = ((0, "", "", 1, 1, "a"), (0, "a", "a", 1, 0, "b"), (0, "a", "b", 1, 0, "a"))
+        self.assertIs(forced_holds(ONCE, 1, 1, cells), True)
+        self.assertIs(forced_holds(ONCE, 1, 1, forced_cells(ONCE, 1, 1)), True)
+        self.assertIsNone(forced_cells(ONCE, 1, 2))
+
+    def test_cells_of_turns(self):
+        """Restless cells at (1, 2) give the first scene the number 1, or more; calm ones can give it 0."""
+        restless = restless_cells(TURNS, 1, (1, 2))
+        self.assertIs(restless_holds(TURNS, 1, (1, 2), restless), True)
+        self.assertTrue(restless[0][:3] == (0, "", "") and restless[0][3] >= 1)
+        lower = ((*restless[0][:3], 0, restless[0][4]),) + restless[1:]
+        self.assertIs(restless_holds(TURNS, 1, (1, 2), lower), False)
+        self.assertIs(calm_holds(TURNS, 1, (1, 2), calm_cells(TURNS, 1, (1, 2))), True)
+        self.assertIs(calm_holds(TURNS, 1, (1, 2), CALM), True)
+        self.assertEqual(CALM[0][:4], (0, "", "", 0))
+        self.assertEqual(shown_along(TURNS, 1, CALM, "aabb"), ("", "a", "aa", "aaa", "aaba"))
+
+
+# Every second letter can be another one than the sign ahead of it told: then this sign is taken back.
+CALM = (
+    (0, "", "", 0, ("a", "a")),
+    (0, "a", "a", 1, ("aa", "ba")),
+    (0, "b", "a", 1, ("aa", "ba")),
+    (1, "a", "a", 0, ("aa", "aa")),
+    (2, "b", "a", 0, ("aa", "aa")),
+)
+
+
+class WatchedTest(unittest.TestCase):
+    def test_sizes_of_next(self):
+        self.assertEqual(inner_states(NEXT), (1, 2))
+        self.assertIs(size_holds(NEXT, 2, ("tells", ((1, 2, 0),))), True)
+        self.assertIs(size_holds(NEXT, 2, judge_size(NEXT, 2)), True)
+        self.assertEqual(least_size(NEXT), 2)
+        self.assertEqual(first_wrong(NEXT, 1), ("ab", "aa"))
+        self.assertIsNone(first_wrong(NEXT, 2))
+        self.assertEqual(stops_at(NEXT, 2, "ab", "aa"), 2)
+        self.assertIsNone(stops_at(NEXT, 1, "ab", "aa"))
+
+    def test_sizes_of_first(self):
+        paper = ("never", ("a", "a"), ("a", "b"), ("a", "a"), ("b", "a"))
+        self.assertEqual(judge_any_size(FIRST)[0], "never")
+        self.assertIs(any_size_holds(FIRST, judge_any_size(FIRST)), True)
+        self.assertIs(any_size_holds(FIRST, paper), True)
+        self.assertIsNone(least_size(FIRST))
+        self.assertEqual(first_wrong(FIRST, 2), ("aab", "aab"))
+        self.assertEqual(judge_size(FIRST, 2), ("wrong", "aab", "aab"))
+        self.assertIs(FIRST.is_right("aab", "bab"), True)
+        self.assertIs(is_let_by(FIRST, 2, "aab", "aab"), True)
+        self.assertIs(can_tell(FIRST, 6), False)
+
+
+class MendedTest(unittest.TestCase):
+    def test_needs_of_echo(self):
+        self.assertEqual(need(ECHO, "abba", "aaaa"), 2)
+        self.assertEqual(mended(ECHO, "abba", "aaaa"), "abba")
+        self.assertEqual(fewest_signs(ECHO, "abba", "aaaa", 3), "a")
+        paper = ("need", "abba", ((0,), (0,), (1,), (2,), (2,)))
+        self.assertIs(need_holds(ECHO, "abba", "aaaa", paper), True)
+        self.assertEqual(judge_need(ECHO, "abba", "aaaa"), paper)
+
+    def test_needs_of_next(self):
+        self.assertEqual(need(NEXT, "aab", "bba"), 1)
+        self.assertEqual(fewest_signs(NEXT, "aab", "bba", 2), "a")
+        self.assertEqual(mended(NEXT, "aab", "bba"), "aba")
+
+    def test_enough(self):
+        self.assertIs(is_enough(ECHO, NEXT, 2), False)
+        self.assertEqual(first_need(ECHO, NEXT, 0), ("a", "b"))
+        self.assertEqual(worst_needs(ECHO, ANY, 3), (0, 1, 2, 3))
+        self.assertEqual(judge_enough(ANY, ECHO, 0), ("enough", ((0, (0,)),)))
+        self.assertIs(enough_holds(ANY, ECHO, 0, ("enough", ((0, (0,)),))), True)
+
+
+class PlainTest(unittest.TestCase):
+    def test_next(self):
+        self.assertEqual(plain_caption(NEXT, "ab"), "ba")
+        self.assertEqual(list_of(NEXT, "a"), ((1, 0), (2, 1)))
+        self.assertEqual(plain_back(NEXT, "abb"), (0, 1, 1))
+
+    def test_promise(self):
+        self.assertEqual(plain_back(PROMISE, "aaab"), (0, 0, 0, 3))
+
+    def test_late_is_not_full(self):
+        for call in (list_of, plain_caption, plain_back):
+            with self.assertRaises(Mute) as caught:
+                call(LATE, "a")
+            self.assertEqual(caught.exception.speech, "b")
 
 
 if __name__ == "__main__":

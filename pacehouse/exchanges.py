@@ -2,7 +2,7 @@
 
 from pacehouse.captioning import check_full
 from pacehouse.needrows import exchanges, least_worth, need_rows, needs_ahead
-from pacehouse.values import is_integer, is_text, is_tuple_of
+from pacehouse.values import is_integer, is_tuple_of
 
 
 def need(rules, speech, caption):
@@ -59,9 +59,9 @@ def judge_need(rules, speech, caption):
 def need_holds(rules, speech, caption, thing):
     """Whether any value is a paper that tells the need of a pair."""
     check_full(rules)
-    if not is_tuple_of(thing, 3) or thing[0] != "need" or not is_text(thing[1], rules.written):
+    if not is_tuple_of(thing, 3) or thing[0] != "need" or not rules.is_right(speech, thing[1]):
         return False
-    if not rules.is_right(speech, thing[1]) or not are_worths(rules, speech, caption, thing[2]):
+    if not are_worths(rules, speech, caption, thing[2]):
         return False
     return least_worth(thing[2][-1]) == sum([exchanges(c, sign) for c, sign in zip(thing[1], caption)])
 

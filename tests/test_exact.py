@@ -212,6 +212,27 @@ class HoldsTest(unittest.TestCase):
             self.assertIs(size_holds(GAPS[1], 3, ("tells", ranks[:at] + ranks[at + 1:])), False)
         self.assertIs(size_holds(GAPS[1], 3, ("tells", ranks[::-1])), False)
 
+    def test_kinds_of_parts_of_ranks(self):
+        rules = Rules("a", "xy", ((("a", "x", 1),), (("a", "y", 0),)))
+        self.assertIs(size_holds(rules, 2, ("tells", ((0, 1, 0),))), True)
+        for row in ((0, True, 0), (False, 1, 0), (0, 1, False), (0, [1], 0), ([0], 1, 0), (0, 1, [0]), (0, {}, 0), (0, "1", 0),
+                    (0, 10 ** 39, 0), (0, (1,), 0), (0, None, 0), (0, -1, 0)):
+            self.assertIs(size_holds(rules, 2, ("tells", (row,))), False, row)
+            self.assertIs(any_size_holds(rules, ("tells", 2, (row,))), False, row)
+
+    def test_the_same_states_twice(self):
+        """As many rows as there are unlike inner states, two by two, but one of these twice, with other numbers."""
+        seen = 0
+        for rules in samples(226, 30):
+            ranks = oracle_windows.widest_ranks(rules, 6) or ()
+            for at in range(1, len(ranks)):
+                for one in (ranks[:at] + ranks[at + 1:], ranks[:at - 1] + ranks[at:]):
+                    for number in range(5):
+                        twice = tuple(sorted({*one, (*one[0][:2], number)}))
+                        self.assertIs(size_holds(rules, 6, ("tells", twice)), False)
+                        seen += len(twice) == len(ranks)
+        self.assertTrue(seen > 20, seen)
+
     def test_parts_of_never(self):
         one, other, loop, tail = ("a", "a"), ("a", "b"), ("a", "a"), ("b", "a")
         self.assertIs(any_size_holds(oracle.FIRST, ("never", one, other, loop, tail)), True)
@@ -221,6 +242,7 @@ class HoldsTest(unittest.TestCase):
                 ((one, other, loop, ("", "")), False), ((one, other, loop, ("a", "a")), False), ((one, other, loop, ("ab", "aa")), True),
                 ((("b", "a"), ("b", "b"), ("aa", "aa"), tail), True), ((("aa", "ab"), other, loop, tail), False),
                 ((one, ("aa", "bb"), loop, tail), False), ((one, other, ("a", "b"), tail), False), ((one, other, tail, tail), False),
+                ((one, other, ("b", "b"), tail), False), ((other, one, tail, ("b", "b")), False),
                 ((one, other, loop, ("b", "ab")), False), ((one, other, loop, ("bb", "a")), False), ((one, other, ("x", "x"), tail), False),
                 ((one, other, loop), False), ((one, other, loop, tail, tail), False), ((list(one), other, loop, tail), False),
                 ((one, other, loop, ["b", "a"]), False), ((one, other, (None, None), tail), False), ((None, other, loop, tail), False),

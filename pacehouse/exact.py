@@ -3,7 +3,7 @@
 from pacehouse.inner import in_order, inner_pairs, least_telling, unlike_layers, unlike_pairs
 from pacehouse.pairs import first_apart, met_pairs
 from pacehouse.tables import moves_from, shared_signs
-from pacehouse.values import is_ascending, is_index, is_number, is_text, is_tuple_of
+from pacehouse.values import is_ascending, is_from_one, is_index, is_text, is_tuple_of
 from pacehouse.windows import is_let_by
 from pacehouse.wrongpairs import first_let_by
 
@@ -143,7 +143,7 @@ def is_pair(rules, thing):
 def any_size_holds(rules, thing):
     """Whether any value is a paper for any size."""
     if is_tuple_of(thing, 3) and thing[0] == "tells":
-        return is_number(thing[1]) and thing[1] > 0 and are_ranks(rules, thing[1], thing[2])
+        return is_from_one(thing[1]) and are_ranks(rules, thing[1], thing[2])
     if is_tuple_of(thing, 5) and thing[0] == "never":
         for pair in thing[1:]:
             if not is_pair(rules, pair) or pair[0] == "":

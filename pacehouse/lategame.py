@@ -67,7 +67,7 @@ def counted_ways(options):
 
 
 def forced_from(options, lost, start):
-    """The lost stands to which their letters lead from a lost one, but those that are not open."""
+    """The lost stands, of any kind, to which their letters lead from a lost one, but those that are not open."""
     met = {}
     order = [start]
     while len(order) > 0:
@@ -81,7 +81,12 @@ def forced_from(options, lost, start):
 
 def baffle_rows(options, lost):
     """The rows of a baffle: the lost stands to which their letters lead from the first one."""
-    return tuple(sorted([(*stand, *lost[stand]) for stand in forced_from(options, lost, START)]))
+    return forced_rows(options, lost, START)
+
+
+def forced_rows(options, lost, start):
+    """For each stand to which their letters lead from a lost one a row with its letter and its number."""
+    return tuple(sorted([(*stand, *lost[stand]) for stand in forced_from(options, lost, start)]))
 
 
 def plan_cells(rules, lag, lost):

@@ -33,19 +33,32 @@ def least_lag(rules, most):
 def written_by(rules, cells, speech):
     """The caption that is written to a whole speech by the cells of a plan."""
     check_full(rules)
-    lag = max([len(cell[1]) for cell in cells])
-    table = {cell[:2]: cell[2] for cell in cells}
-    state, waiting = START
+    state, waiting, caption = written_on(rules, signs_table(cells), START, speech)
+    return caption + first_caption(rules, state, waiting)
+
+
+def signs_table(cells):
+    """For each stand of the cells of a plan their signs."""
+    return {cell[:2]: cell[2] for cell in cells}
+
+
+def written_on(rules, table, stand, speech):
+    """The state and the waiting letters to which a speech leads on from a stand, and what is written to it meanwhile.
+
+    table has the signs of the stands of a plan.
+    """
+    state, waiting = stand
     caption = ""
     for letter in speech:
         signs = table[(state, waiting)]
         waiting = waiting + letter
-        if len(waiting) > lag:
+        # A stand whose waiting letters are fewer than the lag has no signs.
+        if signs != "":
             sign = signs[rules.heard.index(letter)]
             state = state_behind(rules.rows[state], waiting[0], sign)
             waiting = waiting[1:]
             caption = caption + sign
-    return caption + first_caption(rules, state, waiting)
+    return state, waiting, caption
 
 
 def lag_holds(rules, lag, thing):

@@ -31,10 +31,10 @@ def plain_back(rules, speech):
     return tuple(numbers)
 
 
-def led_from(rules, told, letter):
-    """For each state to which a letter leads on from a list, in their order, the place of the pair it comes from."""
+def led_from(rules, states, letter):
+    """For each state to which a letter leads on from the states of a list, in their order, the place it comes from."""
     places = {}
-    for place, (state, _) in enumerate(told):
+    for place, state in enumerate(states):
         for h, _, after in rules.rows[state]:
             if h == letter and after not in places:
                 places[after] = place
@@ -45,7 +45,7 @@ def list_behind(rules, told, letter):
     """The list behind a letter."""
     pairs = []
     ahead = None
-    for state, place in led_from(rules, told, letter).items():
+    for state, place in led_from(rules, states_of(told), letter).items():
         fork = 0 if ahead is None else 1 + greatest_fork(told[ahead + 1:place + 1])
         pairs.append((state, fork))
         ahead = place
@@ -54,8 +54,13 @@ def list_behind(rules, told, letter):
 
 def back_by(rules, told, letter):
     """How many signs a letter takes back behind a list."""
-    places = list(led_from(rules, told, letter).values())
+    places = list(led_from(rules, states_of(told), letter).values())
     return greatest_fork(told[:places[0] + 1])
+
+
+def states_of(told):
+    """The states of a list, in their order."""
+    return [state for state, _ in told]
 
 
 def greatest_fork(told):

@@ -1,9 +1,9 @@
 """Need rows: for each state the least number of signs of a caption to be exchanged so that its speech leads there."""
 
 
-def first_need_row(rules):
-    """The need row of the empty pair."""
-    return tuple([0 if state == 0 else None for state in range(len(rules))])
+def first_need_row(rules, start=0):
+    """The need row of the empty pair, from a state."""
+    return tuple([0 if state == start else None for state in range(len(rules))])
 
 
 def need_row_behind(rules, row, letter, sign):
@@ -17,9 +17,9 @@ def need_row_behind(rules, row, letter, sign):
     return tuple(least)
 
 
-def need_rows(rules, speech, caption):
-    """The need rows of all beginnings of a pair, from the empty one on."""
-    rows = [first_need_row(rules)]
+def need_rows(rules, speech, caption, start=0):
+    """The need rows of all beginnings of a pair, from the empty one on, and from a state."""
+    rows = [first_need_row(rules, start)]
     for letter, sign in zip(speech, caption):
         rows.append(need_row_behind(rules, rows[-1], letter, sign))
     return rows

@@ -4,7 +4,7 @@ from pacehouse.captioning import check_full
 from pacehouse.lategame import forced_from, lost_stands
 from pacehouse.lateplans import check_in_time
 from pacehouse.scenes import FIRST_SCENE, are_scene, met_ways, ways_on
-from pacehouse.values import is_ascending, is_letter, is_number, is_tuple_of
+from pacehouse.values import is_ascending, is_from_one, is_letter, is_number, is_tuple_of
 
 KEPT = "kept"
 SPENT = "spent"
@@ -101,7 +101,7 @@ def is_forced_shaped(rules, reach, thing):
     """Whether any value has the form of a forced cell."""
     if not is_tuple_of(thing, 6) or not are_scene(rules, reach, thing[:3]):
         return False
-    return is_number(thing[3]) and thing[3] > 0 and is_number(thing[4]) and is_letter(thing[5], rules.heard)
+    return is_from_one(thing[3]) and is_number(thing[4]) and is_letter(thing[5], rules.heard)
 
 
 def is_forced(rules, reach, ranks, cell):

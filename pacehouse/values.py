@@ -13,6 +13,11 @@ def is_number(thing):
     return is_integer(thing) and thing >= 0
 
 
+def is_from_one(thing):
+    """Whether a value is an integer from 1 on."""
+    return is_number(thing) and thing > 0
+
+
 def is_index(thing, many):
     """Whether a value is an integer from 0 on and below a number, as the states of rules are."""
     return is_number(thing) and thing < many

@@ -26,11 +26,13 @@ WORDS = re.compile(
     r"\b(type|typing|typing_extensions|enum|Enum|IntEnum|StrEnum|Flag|IntFlag|Generic|Protocol|ABC|ABCMeta|namedtuple|NamedTuple|"
     r"TypedDict|TYPE_CHECKING|abstractmethod)\b|dataclass|overload|contextmanager|_wall")
 NODES = (
-    ast.Global, ast.AsyncFunctionDef, ast.Await, ast.Yield, ast.YieldFrom, ast.Lambda, ast.Try, ast.With, ast.GeneratorExp,
+    ast.Global, ast.AsyncFunctionDef, ast.Await, ast.Yield, ast.YieldFrom, ast.Lambda, ast.With, ast.GeneratorExp,
     ast.Div, ast.Delete, ast.Assert, ast.Match, ast.Nonlocal, ast.AnnAssign, ast.NamedExpr, ast.Set)
 # What may be imported that is not of the package.
 OUTSIDE = {"math": {"gcd"}}
-DUNDERS = {"__init__", "__eq__", "__len__", "__str__", "__and__", "__or__"}
+DUNDERS = {"__init__", "__eq__", "__len__", "__str__", "__and__", "__or__", "__add__", "__contains__"}
+# The methods that change the object that they are called on.
+CHANGERS = {"hear", "undo", "redo", "tried", "cast", "change", "_put", "_change"}
 INTERFACE = {
     "rules": {"Rules": ["heard", "written", "rows"], "Rules.read": ["text"], "Rules.led": ["self", "state", "speech", "caption"],
               "Rules.is_right": ["self", "speech", "caption"], "Rules.least": ["self"], "Rules.flipped": ["self"],
@@ -64,6 +66,31 @@ INTERFACE = {
                "is_enough": ["rules", "other", "number"], "first_need": ["rules", "other", "number"],
                "least_enough": ["rules", "other", "most"], "worst_needs": ["rules", "other", "length"]},
     "lists": {"list_of": ["rules", "speech"], "plain_caption": ["rules", "speech"], "plain_back": ["rules", "speech"]},
+    "plain": {"judge_plain": ["rules"], "plain_holds": ["rules", "thing"], "most_back": ["rules"]},
+    "plainmeans": {"plain_mean": ["rules"]},
+    "relays": {"through": ["one", "other"], "judge_relay": ["one", "other", "middle_lag", "lag"],
+               "relay_holds": ["one", "other", "middle_lag", "lag", "thing"],
+               "can_relay": ["one", "other", "middle_lag", "lag"], "least_relays": ["one", "other", "most"],
+               "put_together": ["one", "other", "cells", "more"], "relayed": ["one", "other", "cells", "speech"]},
+    "pieces": {"piece_of": ["rules", "speech", "caption"], "Piece.leads_to": None, "Piece.costs": None, "Piece.led_class": None,
+               "Piece.__len__": ["self"], "Piece.__add__": ["self", "other"], "Piece.__eq__": ["self", "other"],
+               "need_of": ["piece"], "is_right_piece": ["piece"]},
+    "recordings": {"Recording": ["rules", "speech", "caption"], "Recording.pair_now": None, "Recording.right_until": None,
+                   "Recording.need_now": None, "Recording.__len__": ["self"], "Recording.state_at": ["self", "place"],
+                   "Recording.stretch": ["self", "start", "end"], "Recording.stops": ["self", "k"],
+                   "Recording.change": ["self", "start", "end", "speech", "caption"], "Recording.undo": ["self"]},
+    "studios": {"Studio": ["rules", "lag"], "Studio.hear": ["self", "piece"], "Studio.undo": ["self"], "Studio.end": ["self"],
+                "Studio.spoken": None, "Studio.written_now": None, "Studio.waits": None, "Studio.shown_now": None,
+                "Studio.__len__": ["self"]},
+    "house": {"keeps": ["rules", "promise"], "first_broken": ["rules", "promises"], "is_promise": ["thing"], "House": [],
+              "House.names": None, "House.__contains__": ["self", "name"], "House.__len__": ["self"],
+              "House.editions": ["self", "name"], "House.in_use": ["self", "name"], "House.promises": ["self", "name"],
+              "House.found": ["self", "name", "rules", "promises"], "House.add_promise": ["self", "name", "promise"],
+              "House.bring": ["self", "name", "rules"], "House.drop": ["self", "name"], "House.undo": ["self"],
+              "House.redo": ["self"], "House.tried": ["self", "action"], "House.cast": ["self", "name", "speech"],
+              "House.log": None, "House.stands": ["self", "place"], "House.studio": ["self", "name", "lag"]},
+    "findings": {"finding_holds": ["thing"]},
+    "console": {"Console": [], "Console.run": ["self", "command"]},
 }
 
 
@@ -207,7 +234,18 @@ class FilesTest(unittest.TestCase):
     def test_what_is_passed_stays(self):
         for path, node in self.functions():
             if node.name != "__init__":
-                self.assertFalse({arg.arg for arg in node.args.args} & changed_names(node), (path, node.name))
+                changed = changed_names(node) - ({"self"} if node.name in CHANGERS else set())
+                self.assertFalse({arg.arg for arg in node.args.args} & changed, (path, node.name))
+
+    def test_own_errors_alone_are_caught(self):
+        own = {node.name for _, tree in self.trees() for node in tree.body if isinstance(node, ast.ClassDef)}
+        for path, tree in self.trees():
+            for node in ast.walk(tree):
+                if isinstance(node, ast.Try):
+                    self.assertTrue(all(isinstance(row, ast.Assign) for row in node.finalbody), path)
+                    for handler in node.handlers:
+                        caught = {x.id for x in ast.walk(handler.type) if isinstance(x, ast.Name)}
+                        self.assertTrue(caught <= own and handler.name is None, (path, node.lineno))
 
 
 class InterfaceTest(unittest.TestCase):
@@ -220,6 +258,9 @@ class InterfaceTest(unittest.TestCase):
                 if method:
                     self.assertIn(method, vars(thing), "a method stands in its class itself")
                     thing = getattr(thing, method)
+                if parameters is None:
+                    self.assertIsInstance(thing, property, name)
+                    continue
                 self.assertEqual(thing.__module__, f"pacehouse.{file}")
                 self.assertEqual(list(inspect.signature(thing).parameters), parameters, name)
 

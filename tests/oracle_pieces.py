@@ -1,7 +1,7 @@
 """Slow looks at pieces and recordings, straight from the document's words."""
 
 from pacehouse.rules import Rules
-from tests import oracle, oracle_mending
+from tests import oracle, oracle_mending, oracle_windows
 
 SHAPES = (("ab", "ab"), ("ab", "abc"), ("a", "xy"), ("ab", "x"), ("ab", "xyz"))
 ALPHABET = "abcdefghijklmnopqrstuvwxyz"
@@ -44,21 +44,11 @@ def states_at(rules, speech, caption):
     return [oracle.led(rules, 0, speech[:place], caption[:place]) for place in range(len(speech) + 1)]
 
 
-def inner(rules):
-    """The inner states: those to which some right pair of one sign or more leads."""
-    met = {after for _, _, after in rules.rows[0]}
-    while True:
-        more = met | {after for state in met for _, _, after in rules.rows[state]}
-        if more == met:
-            return met
-        met = more
-
-
 def stops(rules, speech, caption, k):
     """The places of the windows of k signs that are not let by."""
     found = []
     for place in range(len(speech) - k + 1):
-        states = {0} if place == 0 else inner(rules)
+        states = {0} if place == 0 else oracle_windows.inner(rules)
         window = speech[place:place + k], caption[place:place + k]
         if all(oracle.led(rules, state, *window) is None for state in states):
             found.append(place)

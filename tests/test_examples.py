@@ -14,6 +14,11 @@ from pacehouse.lists import list_of, plain_back, plain_caption
 from pacehouse.means import calm_cells, calm_holds, least_mean, restless_cells, restless_holds, shown_along
 from pacehouse.never import judge_never, never_holds, some_lag
 from pacehouse.pairs import parting
+from pacehouse.pieces import is_right_piece, need_of, piece_of
+from pacehouse.plain import judge_plain, most_back, plain_holds
+from pacehouse.plainmeans import plain_mean
+from pacehouse.recordings import Recording
+from pacehouse.relays import can_relay, judge_relay, least_relays, put_together, relay_holds, relayed, through
 from pacehouse.rules import Rules
 from pacehouse.shown import answers, cost_of, is_scene, scene_behind, taken_back
 from pacehouse.totals import forced_cells, forced_holds, least_total
@@ -54,6 +59,11 @@ PROMISE = Rules("ab", "ab", (
     (("a", "a", 1),),
     (("a", "a", 2), ("b", "a", 2)),
 ))
+END = Rules("ab", "ab", (
+    (("a", "a", 0), ("a", "b", 1), ("b", "a", 0), ("b", "b", 1)),
+    (("a", "b", 1), ("b", "b", 1)),
+))
+FREE = Rules("ab", "ab", ((("a", "a", 0), ("a", "b", 0), ("b", "a", 0), ("b", "b", 0)),))
 LATE = Rules("ab", "ab", ((("a", "a", 1), ("a", "b", 2)), (("a", "a", 1),), (("a", "a", 2), ("b", "a", 2))))
 
 
@@ -203,11 +213,70 @@ class PlainTest(unittest.TestCase):
     def test_promise(self):
         self.assertEqual(plain_back(PROMISE, "aaab"), (0, 0, 0, 3))
 
+    def test_most_at_once_and_in_the_long_run(self):
+        self.assertEqual((most_back(rules=NEXT), plain_mean(rules=NEXT)), (1, (1, 1)))
+        self.assertEqual((most_back(END), plain_mean(END)), (0, (0, 1)))
+        self.assertEqual({plain_caption(END, speech) for speech in ("aaa", "bab", "bbb")}, {"aaa"})
+
+    def test_promise_has_a_ring(self):
+        self.assertEqual(least_lag(PROMISE, 2), 0)
+        self.assertIs(plain_holds(thing=("ring", "a", "a", "b", 1), rules=PROMISE), True)
+        paper = judge_plain(rules=PROMISE)
+        self.assertEqual(paper[0], "ring")
+        self.assertIs(plain_holds(PROMISE, paper), True)
+        self.assertIsNone(most_back(PROMISE))
+        self.assertIsNone(plain_mean(PROMISE))
+
     def test_late_is_not_full(self):
-        for call in (list_of, plain_caption, plain_back):
+        for call, told in ((list_of, ("a",)), (plain_caption, ("a",)), (plain_back, ("a",)), (judge_plain, ()), (most_back, ()),
+                           (plain_mean, ()), (plain_holds, (("ring", "a", "a", "b", 1),))):
             with self.assertRaises(Mute) as caught:
-                call(LATE, "a")
+                call(LATE, *told)
             self.assertEqual(caught.exception.speech, "b")
+
+
+class RelaysTest(unittest.TestCase):
+    def test_through_next_and_next(self):
+        whole = through(one=NEXT, other=NEXT)
+        self.assertIs(whole.is_right("abba", "bab"), False)
+        self.assertIs(whole.is_right("abba", "baab"), True)
+        self.assertIs(whole.is_right("abba", "bbab"), False)
+        self.assertEqual(least_relays(one=NEXT, other=NEXT, most=3), ((1, 2),))
+        self.assertIs(can_relay(one=NEXT, other=NEXT, middle_lag=1, lag=2), True)
+
+    def test_next_and_free(self):
+        self.assertEqual(least_relays(NEXT, FREE, 3), ((1, 1),))
+        self.assertEqual(least_lag(through(NEXT, FREE), 3), 0)
+        paper = ("baffle", ((0, "", 0, "", "a", 1), (1, "", 0, "", "b", 0), (2, "", 0, "", "a", 0)))
+        self.assertIs(relay_holds(one=NEXT, other=FREE, middle_lag=0, lag=0, thing=paper), True)
+        self.assertEqual(judge_relay(one=NEXT, other=FREE, middle_lag=0, lag=0)[0], "baffle")
+        self.assertIs(relay_holds(NEXT, FREE, 0, 0, judge_relay(NEXT, FREE, 0, 0)), True)
+
+    def test_put_together(self):
+        cells = judge_lag(NEXT, 1)[1]
+        found = put_together(one=NEXT, other=NEXT, cells=cells, more=cells)
+        self.assertEqual(relayed(one=NEXT, other=NEXT, cells=found, speech="abba"), ("bbaa", "baaa"))
+        self.assertIs(relay_holds(NEXT, NEXT, 1, 2, ("plan", found)), True)
+
+
+class PiecesTest(unittest.TestCase):
+    def test_echo(self):
+        piece = piece_of(rules=ECHO, speech="ab", caption="aa")
+        self.assertEqual((piece.leads_to, piece.costs, piece.led_class), ((None,), ((1,),), ((0,),)))
+        joined = piece + piece_of(ECHO, "a", "a")
+        self.assertEqual(joined.costs, ((1,),))
+        self.assertEqual((need_of(piece=joined), is_right_piece(piece=joined), len(joined)), (1, False, 3))
+
+    def test_next(self):
+        piece = piece_of(NEXT, "a", "b")
+        self.assertEqual(piece.leads_to, (2, 2, None))
+        self.assertEqual(piece.costs, ((None, 1, 0), (None, 1, 0), (None, None, None)))
+
+    def test_recording(self):
+        recording = Recording(rules=ECHO, speech="abba", caption="abaa")
+        self.assertEqual(recording.right_until, 2)
+        self.assertEqual(recording.change(start=2, end=3, speech="a", caption="a"), 0)
+        self.assertEqual((recording.right_until, recording.need_now), (4, 0))
 
 
 if __name__ == "__main__":

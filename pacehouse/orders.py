@@ -65,21 +65,18 @@ def met_orders(rules, most):
 
 
 def cut_ways(steps):
-    """For each place (order, cut) the ways on: letters with the places behind them, ENDED if all is taken back."""
-    return {(order, cut): ways_of_cut(steps, told, cut)
+    """For each place (order, cut) the ways on: letters with the places behind them, ENDED if all is taken back.
+
+    Behind a cut there may be no states left: such a place has no ways on, and never comes to its end.
+    """
+    return {(order, cut): [(letter, place_behind(after, came, cut)) for letter, after, came in told]
             for order, told in steps.items() for cut in range(1, len(order))}
 
 
-def ways_of_cut(steps, told, cut):
-    """The ways on of a cut by the steps from its order."""
-    ways = []
-    for letter, after, places in told:
-        left = len([place for place in places if place < cut])
-        if left == 0:
-            ways.append((letter, ENDED))
-        elif left < len(after) and after in steps:
-            ways.append((letter, (after, left)))
-    return ways
+def place_behind(order, came, cut):
+    """The place of a cut in the order behind a letter, whose states come from some places in the order ahead."""
+    left = len([place for place in came if place < cut])
+    return (order, left) if left > 0 else ENDED
 
 
 def ending_ways(ways):

@@ -115,13 +115,10 @@ def is_plan(one, other, lags, things):
 
 
 def is_cell(one, other, lags, thing):
-    """Whether a value has the form of a cell, at an open stand."""
-    if not is_tuple_of(thing, 5) or not is_stand(one, other, lags, thing) or not is_tuple_of(thing[4], len(one.heard)):
+    """Whether a value has the form of a cell, at an open stand, with something for each heard letter."""
+    if not is_tuple_of(thing, 5) or not is_stand(one, other, lags, thing):
         return False
-    for pair in thing[4]:
-        if not is_tuple_of(pair, 2) or not is_text(pair[0], one.written) or not is_text(pair[1], other.written):
-            return False
-    return is_open_stand(one, other, thing[:4])
+    return is_tuple_of(thing[4], len(one.heard)) and is_open_stand(one, other, thing[:4])
 
 
 def is_baffle(one, other, lags, things):

@@ -2,8 +2,15 @@
 
 import random
 
+from pacehouse.console import Console
+from pacehouse.house import House
+from pacehouse.pieces import piece_of
+from pacehouse.recordings import Recording
 from pacehouse.rules import Rules
+from pacehouse.studios import Studio
 
+SAYING = Rules("a", "x", ((("a", "x", 0),),))
+OBJECTS = (piece_of(SAYING, "a", "x"), Recording(SAYING, "a", "x"), Studio(SAYING, 0), House(), Console())
 DEEP = ()
 for _ in range(18):
     DEEP = (DEEP, [DEEP] if _ < 5 else 1)
@@ -16,6 +23,7 @@ VALUES = (
     ("ever", ()), ("ever", [()]), ("ever", ((0, (), ()),)), ("never", ("a", "a", ""), ()), ("", "a", ""), ("", "", ""),
     ("a", "a", "a", "a"), ("a", "a"), "aaa", ["", "a", ""], ({}, {}, {}), (0, 0, 0), (True, True), DEEP, [DEEP],
     Rules("a", "x", ((),)), (Rules("a", "x", ((),)),), ("plan", Rules("a", "x", ((),))), (Rules("a", "x", ((),)), ()),
+    *OBJECTS, OBJECTS, ("plan", OBJECTS), (OBJECTS[0], ()), [OBJECTS[1]], {"a": OBJECTS[3]},
 )
 
 

@@ -1,10 +1,13 @@
 """Rings of the plain captioner, papers with capped lists, and the most signs that are ever taken back at once."""
 
 import unittest
+from unittest import mock
 
+from pacehouse.cappedlists import first_back
 from pacehouse.errors import Mute
 from pacehouse.lateplans import can_be_late
 from pacehouse.lists import plain_back
+from pacehouse.orders import met_orders
 from pacehouse.plain import judge_plain, most_back, plain_holds
 from pacehouse.rules import Rules
 from tests import odd, oracle, oracle_plain
@@ -73,6 +76,34 @@ class PapersTest(unittest.TestCase):
                 for speech in oracle.texts(rules.heard, 4):
                     told = oracle_plain.oracle_mending.list_from(oracle_plain.oracle_mending.firsts(rules, speech))
                     self.assertIn(oracle_plain.capped(told, paper[1]), paper[2])
+
+    def test_however_many_orders_are_looked_at_first(self):
+        """Rings are looked for in the first orders, and then in more of them: of few ones at first the same is told."""
+        many = 0
+        for rules in samples(407, 60):
+            most = most_back(rules)
+            for few in (1, 2, 5, 10 ** 6):
+                with mock.patch("pacehouse.orders.FEW", few):
+                    self.assertEqual(most_back(rules), most)
+                    paper = judge_plain(rules)
+                    self.assertEqual(paper[0] == "ring", most is None)
+                    self.assertTrue(oracle_plain.plain_holds(rules, paper))
+            many += len(met_orders(rules, 10 ** 6)[0]) > 5
+        self.assertTrue(many > 20)
+
+    def test_first_speech_that_takes_back_more(self):
+        seen = 0
+        for rules in samples(408, 60):
+            for number in range(4):
+                speech = first_back(rules, number)
+                most = most_back(rules)
+                self.assertEqual(speech is None, most is not None and most <= number)
+                if speech is not None and len(speech) <= 5:
+                    seen += 1
+                    short = [told for told in oracle.texts(rules.heard, 5) if max(plain_back(rules, told), default=0) > number]
+                    self.assertEqual(speech, short[0])
+                self.assertTrue(speech is None or plain_back(rules, speech)[-1] > number)
+        self.assertTrue(seen > 60)
 
     def test_known(self):
         self.assertEqual(judge_plain(oracle.ANY), ("within", 0, (((0, 0),),)))
@@ -169,6 +200,18 @@ class HoldsTest(unittest.TestCase):
         self.assertIs(plain_holds(oracle.ANY, ("within", 0, (((0, 0),),))), True)
         self.assertIs(plain_holds(oracle.END, ("within", 0, (((0, 0),), ((0, 0), (1, 1))))), True)
         self.assertIs(plain_holds(oracle.END, ("within", 0, (((0, 0),), ((0, 0), (1, 2))))), False)
+
+    def test_forks_from_one_but_nought_at_first(self):
+        """Lists that come of no speech, at which each letter leads to lists of the paper: their own forks must be right, too."""
+        rules = Rules("a", "xy", ((("a", "x", 0),), (("a", "y", 1),)))
+        for number, lists, holds in (
+                (0, (((0, 0),), ((0, 0), (1, 1))), True), (0, (((0, 0),), ((0, 0), (1, 0)), ((0, 0), (1, 1))), False),
+                (1, (((0, 0),), ((0, 1),)), False), (1, (((0, 0),), ((0, 0), (1, 1)), ((0, 0), (1, 2))), True),
+                (1, (((0, 0),), ((0, -1),)), False), (1, (((0, -1),), ((0, 0),)), False), (2, (((0, 0),), ((0, 0), (1, 3))), True),
+                (2, (((0, 0),), ((0, 0), (1, 4))), False), (9, (((0, 0),), ((1, 0),)), True), (9, (((0, 0),), ((1, 1),)), False)):
+            thing = ("within", number, lists)
+            self.assertIs(oracle_plain.plain_holds(rules, thing), holds, thing)
+            self.assertIs(plain_holds(rules, thing), holds, thing)
 
     def test_kinds_of_parts_of_rings(self):
         ring = ("ring", "a", "a", "b", 1)

@@ -121,6 +121,29 @@ class PapersTest(unittest.TestCase):
         self.assertIs(relay_holds(one, other, 1, 2, ("plan", tuple(sorted(cells + ((0, "", 0, "aaa", (("", "a"),)),))))), False)
         self.assertIs(relay_holds(one, other, 1, 2, ("plan", tuple(sorted(cells + ((0, "aa", 0, "", (("a", ""),)),))))), False)
 
+    def test_no_more_letters_than_the_lags(self):
+        """Cells and rows that would hold if their stands had not too many letters in waiting, or in both together."""
+        one = other = Rules("a", "a", ((("a", "a", 0),),))
+        cells = ((0, "", 0, "", (("", ""),)), (0, "a", 0, "", (("a", ""),)), (0, "a", 0, "a", (("a", "a"),)))
+        self.assertIs(relay_holds(one, other, 1, 2, ("plan", cells)), True)
+        for cell in ((0, "aa", 0, "", (("a", "a"),)), (0, "aa", 0, "a", (("a", "a"),)), (0, "a", 0, "aa", (("a", "a"),)), (0, "", 0, "aaa", (("", "a"),))):
+            self.assertIs(relay_holds(one, other, 1, 2, ("plan", tuple(sorted(cells + (cell,))))), False, cell)
+        baffle = judge_relay(oracle.NEXT, oracle.NEXT, 0, 1)[1]
+        self.assertIs(relay_holds(oracle.NEXT, oracle.NEXT, 0, 1, ("baffle", baffle)), True)
+        for row in ((1, "b", 0, "", "a", 99), (2, "a", 0, "", "b", 99), (1, "", 0, "ab", "b", 99)):
+            told = ("baffle", tuple(sorted(baffle + (row,))))
+            self.assertIs(relay_holds(oracle.NEXT, oracle.NEXT, 0, 1, told), False, row)
+            self.assertIs(oracle_relay.relay_holds(oracle.NEXT, oracle.NEXT, (0, 1), told), False, row)
+
+    def test_one_row_for_each_stand(self):
+        for cells, holds in (((("a", "a"), ("b", "a")), True), ((("a", "b"), ("b", "b")), True)):
+            self.assertIs(relay_holds(oracle.ANY, oracle.ANY, 0, 0, ("plan", ((0, "", 0, "", cells),))), holds)
+        both = ((0, "", 0, "", (("a", "a"), ("b", "a"))), (0, "", 0, "", (("a", "b"), ("b", "b"))))
+        self.assertIs(relay_holds(oracle.ANY, oracle.ANY, 0, 0, ("plan", both)), False)
+        baffle = ((0, "", 0, "", "a", 1), (1, "", 0, "", "b", 0), (2, "", 0, "", "a", 0))
+        for row in ((0, "", 0, "", "a", 2), (2, "", 0, "", "a", 7), (0, "", 0, "", "b", 1)):
+            self.assertIs(relay_holds(oracle.NEXT, oracle.ANY, 0, 0, ("baffle", tuple(sorted(baffle + (row,))))), False)
+
     def test_letters_of_the_middle(self):
         """What is in the middle has letters that the first house writes, not others that the other one hears."""
         one, other = oracle.ANY, oracle_relay.WIDE

@@ -141,20 +141,37 @@ def run_names(house, parts):
     return told_word(" ".join(house.names))
 
 
-# For each first word of a command what reads its further parts, and what runs it with them.
-COMMANDS = {
-    "found": ((read_name, read_rules), run_found),
-    "bring": ((read_name, read_rules), run_bring),
-    "lag": ((read_name, read_figure), run_lag),
-    "plain": ((read_name, read_figure), run_plain),
-    "window": ((read_name, read_size), run_window),
-    "least": ((read_name,), run_least),
-    "cast": ((read_name, read_letters), run_cast),
-    "right": ((read_name, read_letters, read_letters), run_right),
-    "drop": ((read_name,), run_drop),
-    "undo": ((), run_undo),
-    "redo": ((), run_redo),
-    "names": ((), run_names),
+# What reads the parts of a command.
+READERS = {"NAME": read_name, "FIGURE": read_figure, "SIZE": read_size, "WORD": read_letters, "TEXT": read_rules}
+# For each first word of a command its further parts.
+FORMS = {
+    "found": ("NAME", "TEXT"),
+    "bring": ("NAME", "TEXT"),
+    "lag": ("NAME", "FIGURE"),
+    "plain": ("NAME", "FIGURE"),
+    "window": ("NAME", "SIZE"),
+    "least": ("NAME",),
+    "cast": ("NAME", "WORD"),
+    "right": ("NAME", "WORD", "WORD"),
+    "drop": ("NAME",),
+    "undo": (),
+    "redo": (),
+    "names": (),
+}
+# For each first word of a command what runs it on a house, with its further parts.
+ACTIONS = {
+    "found": run_found,
+    "bring": run_bring,
+    "lag": run_lag,
+    "plain": run_plain,
+    "window": run_window,
+    "least": run_least,
+    "cast": run_cast,
+    "right": run_right,
+    "drop": run_drop,
+    "undo": run_undo,
+    "redo": run_redo,
+    "names": run_names,
 }
 
 
@@ -168,6 +185,17 @@ def words_of(command):
     return words
 
 
+def parts_of(words):
+    """What is told by the further words of a command."""
+    if words[0] not in FORMS or len(words) != len(FORMS[words[0]]) + 1:
+        raise InvalidCommand()
+    parts = []
+    for word, form in zip(words[1:], FORMS[words[0]]):
+        reader = READERS[form]
+        parts.append(reader(word))
+    return parts
+
+
 class Console:
     """Runs commands on a house of its own."""
 
@@ -177,12 +205,6 @@ class Console:
     def run(self, command):
         """The answer to any value that is a command."""
         words = words_of(command)
-        if words[0] not in COMMANDS:
-            raise InvalidCommand()
-        readers, action = COMMANDS[words[0]]
-        if len(words) != len(readers) + 1:
-            raise InvalidCommand()
-        parts = []
-        for place, reader in enumerate(readers):
-            parts.append(reader(words[place + 1]))
+        parts = parts_of(words)
+        action = ACTIONS[words[0]]
         return action(self._house, parts)

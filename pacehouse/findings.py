@@ -95,38 +95,43 @@ def is_relay_paper(rules, told):
     return relay_holds(rules, other, told[3], told[4], ("plan", told[5]))
 
 
-# For each kind of finding its number of parts, with the word ahead, and what tells whether it holds.
-KINDS = {
-    "right": (4, is_right_pair),
-    "mute": (3, is_mute_speech),
-    "same": (4, is_comparison),
-    "apart": (5, is_comparison),
-    "plan": (4, is_lag_paper),
-    "baffle": (4, is_lag_paper),
-    "ever": (3, is_never_paper),
-    "never": (4, is_never_paper),
-    "calm": (5, is_mean_paper),
-    "restless": (5, is_mean_paper),
-    "forced": (5, is_forced_paper),
-    "tells": (4, is_size_paper),
-    "wrong": (5, is_size_paper),
-    "need": (6, is_need_paper),
-    "enough": (5, is_enough_paper),
-    "needs": (6, is_enough_paper),
-    "ring": (6, is_plain_paper),
-    "within": (4, is_plain_paper),
-    "relay": (6, is_relay_paper),
+# For each kind of finding the number of its parts, the word ahead of them counted.
+LENGTHS = {
+    "right": 4, "mute": 3, "same": 4, "apart": 5, "plan": 4, "baffle": 4, "ever": 3, "never": 4, "calm": 5, "restless": 5,
+    "forced": 5, "tells": 4, "wrong": 5, "need": 6, "enough": 5, "needs": 6, "ring": 6, "within": 4, "relay": 6,
+}
+# For each kind of finding what tells whether it holds.
+JUDGES = {
+    "right": is_right_pair,
+    "mute": is_mute_speech,
+    "same": is_comparison,
+    "apart": is_comparison,
+    "plan": is_lag_paper,
+    "baffle": is_lag_paper,
+    "ever": is_never_paper,
+    "never": is_never_paper,
+    "calm": is_mean_paper,
+    "restless": is_mean_paper,
+    "forced": is_forced_paper,
+    "tells": is_size_paper,
+    "wrong": is_size_paper,
+    "need": is_need_paper,
+    "enough": is_enough_paper,
+    "needs": is_enough_paper,
+    "ring": is_plain_paper,
+    "within": is_plain_paper,
+    "relay": is_relay_paper,
 }
 
 
 def finding_holds(thing):
     """Whether any value is a finding that holds."""
-    if not isinstance(thing, tuple) or len(thing) == 0 or not isinstance(thing[0], str) or thing[0] not in KINDS:
+    if not isinstance(thing, tuple) or len(thing) == 0 or not isinstance(thing[0], str):
         return False
-    many, holds = KINDS[thing[0]]
-    if len(thing) != many:
+    if thing[0] not in LENGTHS or len(thing) != LENGTHS[thing[0]]:
         return False
+    judge = JUDGES[thing[0]]
     try:
-        return holds(Rules.read(thing[1]), thing)
+        return judge(Rules.read(thing[1]), thing)
     except (BadText, Mute, OtherLetters, Unjoined):
         return False

@@ -2,11 +2,10 @@
 
 from pacehouse.captioning import first_caption
 from pacehouse.errors import BadPiece, NoLag, NothingToUndo
-from pacehouse.lategame import START
 from pacehouse.lateplans import judge_lag, signs_table, written_on
 
 # What was heard, what is written, the stand, and what is written to the waiting letters if the speech ends.
-FIRST_MOMENT = ("", "", START, "")
+FIRST_MOMENT = ("", "", (0, ""), "")
 
 
 def check_speech(rules, thing):

@@ -97,8 +97,9 @@ def is_relay_paper(rules, told):
 
 # For each kind of finding the number of its parts, the word ahead of them counted.
 LENGTHS = {
-    "right": 4, "mute": 3, "same": 4, "apart": 5, "plan": 4, "baffle": 4, "ever": 3, "never": 4, "calm": 5, "restless": 5,
-    "forced": 5, "tells": 4, "wrong": 5, "need": 6, "enough": 5, "needs": 6, "ring": 6, "within": 4, "relay": 6,
+    "right": 4, "mute": 3, "same": 4, "apart": 5, "plan": 4, "baffle": 4, "ever": 3, "never": 4,
+    "calm": 5, "restless": 5, "forced": 5, "tells": 4, "wrong": 5, "need": 6, "enough": 5, "needs": 6,
+    "ring": 6, "within": 4, "relay": 6,
 }
 # For each kind of finding what tells whether it holds.
 JUDGES = {

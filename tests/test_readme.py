@@ -11,7 +11,7 @@ README = pathlib.Path(__file__).resolve().parent.parent / "README.md"
 def told_value(comment):
     """The value with which a comment begins, as a tuple of one item, or None if it begins with none."""
     for end in range(len(comment), 0, -1):
-        if comment[:end].endswith(","):
+        if comment[:end].rstrip().endswith(","):
             continue
         try:
             return (ast.literal_eval(comment[:end].strip()),)
